@@ -1,0 +1,1 @@
+"""Sorter, collator, selector and punches for cards of eighty columns."""
