@@ -1,14 +1,25 @@
 """The desk: takes calls one behind another and answers them."""
 
+from cardpunches.calculator import CalculatingPunch
+from cardpunches.calculator import begin_card
+from cardpunches.calculator import keep_counters
+from cardpunches.calculator import run_steps
 from cardpunches.cards import is_field
 from cardpunches.cards import out_of_sequence
+from cardpunches.cards import read_card
 from cardpunches.cards import read_deck
+from cardpunches.cards import tell_card
 from cardpunches.cards import tell_deck
 from cardpunches.collator import collate
 from cardpunches.collator import is_collation
 from cardpunches.panels import panel_refusal
 from cardpunches.panels import read_panel
+from cardpunches.programs import read_program
 from cardpunches.reproducer import ReproducingPunch
+from cardpunches.reproducer import place_that_differs
+from cardpunches.reproducer import punch_card
+from cardpunches.reproducer import run_pair
+from cardpunches.reproducer import stops_behind
 from cardpunches.selector import select_cards
 from cardpunches.sorter import drop_cards
 from cardpunches.sorter import is_pass
@@ -19,11 +30,20 @@ FOLLOW = 2
 COLLATE = 3
 SELECT = 4
 SETCOPY = 5
+COPY = 6
+SETWORK = 7
+WORK = 8
+COUNTERS = 9
 
+NO_PROGRAM = -2
 WRONG_NUMBERS = -3
+NOT_SET_UP = -3
 FIRST_OUT_OF_SEQUENCE = -5
+CARDS_DIFFER = -5
+WRONG_STEP = -5
 SECOND_OUT_OF_SEQUENCE = -6
 NO_DECK = -8
+NO_CARD = -8
 
 
 class UnknownCall(ValueError):
@@ -128,6 +148,67 @@ def answer_setcopy(reader, desk):
     return [0]
 
 
+def answer_copy(reader, desk):
+    source = read_card(reader.next_row())
+    card = read_card(reader.next_row())
+    if not isinstance(desk.punch, ReproducingPunch):
+        return [NOT_SET_UP]
+    if source is None or card is None:
+        return [NO_CARD]
+    goes = run_pair(desk.punch, source, card)
+    place = place_that_differs(goes)
+    if place is not None:
+        return [CARDS_DIFFER, place]
+    punched = punch_card(desk.punch, card, goes)
+    return [0, 1 if stops_behind(goes) else 0] + tell_card(punched)
+
+
+def answer_setwork(reader, desk):
+    steps = read_program(reader.next_row())
+    text = reader.next_row()
+    if steps is None:
+        return [NO_PROGRAM]
+    refusal = panel_refusal(text)
+    if len(refusal) > 0:
+        return refusal
+    desk.punch = CalculatingPunch(steps, read_panel(text))
+    return [0]
+
+
+def answer_work(reader, desk):
+    card = read_card(reader.next_row())
+    if not isinstance(desk.punch, CalculatingPunch):
+        return [NOT_SET_UP]
+    if card is None:
+        return [NO_CARD]
+    run = begin_card(desk.punch, card)
+    wrong = run_steps(desk.punch.steps, run)
+    if len(wrong) > 0:
+        return [WRONG_STEP] + wrong
+    keep_counters(desk.punch, run)
+    return [0] + tell_card(run.card)
+
+
+def answer_counters(desk):
+    if not isinstance(desk.punch, CalculatingPunch):
+        return [NOT_SET_UP]
+    return [0] + desk.punch.kept
+
+
+def answer_punch_call(number, reader, desk):
+    if number == SETCOPY:
+        return answer_setcopy(reader, desk)
+    if number == COPY:
+        return answer_copy(reader, desk)
+    if number == SETWORK:
+        return answer_setwork(reader, desk)
+    if number == WORK:
+        return answer_work(reader, desk)
+    if number == COUNTERS:
+        return answer_counters(desk)
+    raise UnknownCall(f"no call has the number {number}")
+
+
 def answer_call(reader, desk):
     number = reader.next_number()
     if number == THE_PASS:
@@ -138,9 +219,7 @@ def answer_call(reader, desk):
         return answer_collate(reader)
     if number == SELECT:
         return answer_select(reader)
-    if number == SETCOPY:
-        return answer_setcopy(reader, desk)
-    raise UnknownCall(f"no call has the number {number}")
+    return answer_punch_call(number, reader, desk)
 
 
 def answers(calls):

@@ -111,8 +111,18 @@ def read_panel(text):
     return in_running_order(wires_of(text))
 
 
+def machine_sending(holes):
+    """What a machine sends that sends these holes, from `from 0` on, and nothing behind them."""
+    return holes + [0] * (PLACES - len(holes))
+
+
 def silent_machine():
-    return [0] * PLACES
+    return machine_sending([])
+
+
+def machine_gets(goes, place):
+    """What the machine gets at `to` and the place, where goes has what goes into the hubs that take."""
+    return goes.get(("to", place), 0)
 
 
 def sent_by_box(sender, goes):

@@ -1,12 +1,13 @@
 """The selector: a panel says into which of two pockets a card falls."""
 
+from cardpunches.panels import machine_gets
 from cardpunches.panels import run_panel
 from cardpunches.panels import silent_machine
 
 
 def is_selected(panel, card):
     goes = run_panel(panel, card, silent_machine())
-    return goes.get(("to", 0), 0) > 0
+    return machine_gets(goes, 0) > 0
 
 
 def select_cards(panel, deck):

@@ -48,6 +48,31 @@ def setcopy(text):
     return [5] + row(signs(text))
 
 
+def copy(read, punched):
+    return [6] + row(read) + row(punched)
+
+
+def setwork(program, text=""):
+    return [7] + row(program) + row(signs(text))
+
+
+def work(card):
+    return [8] + row(card)
+
+
+def counters():
+    return [9]
+
+
+def step(op, when=0, hub=0, k=0, j=0, c=0, n=0, s=0, x=0):
+    """A step's nine numbers."""
+    return [op, when, hub, k, j, c, n, s, x]
+
+
+def program(*steps):
+    return [number for one in steps for number in one]
+
+
 def ask(*calls):
     """The answer to each call, all on one object."""
     given = answers([number for call in calls for number in call])
@@ -86,6 +111,15 @@ def figure(d):
     return rows_punched(d + 2)
 
 
+def amount_at(c, text):
+    """A card with an amount from column c on: figures, blanks for columns without holes, - behind for row 1."""
+    card = {c + place: figure(int(sign)) for place, sign in enumerate(text.rstrip("-")) if sign != " "}
+    if text.endswith("-"):
+        last = c + len(text) - 2
+        card[last] = card.get(last, 0) | rows_punched(1)
+    return card
+
+
 def holes_by_code(n):
     """The code as the document words it, by rows."""
     z = n // 16
@@ -110,6 +144,62 @@ def rank_by_code(holes):
 def ranks(card, c, n):
     return [rank_by_code(card.get(column, 0)) for column in range(c, c + n)]
 
+
+def goes_in_words(wires, card, machine, taker):
+    """What goes into a hub that takes, by the document's tables, from the end backwards."""
+    senders = [sender for sender, other in wires if other == taker]
+    if not senders:
+        return 0
+    name, k, *m = senders[0]
+
+    def into(hub):
+        return goes_in_words(wires, card, machine, (hub, k))
+
+    if name == "read":
+        return card.get(k, 0)
+    if name == "send":
+        return holes_by_code(k)
+    if name == "from":
+        return machine[k]
+    if name == "upper":
+        return into("split") & rows_punched(0, 1)
+    if name == "lower":
+        return into("split") & rows_punched(*range(2, 12))
+    if name == "hole":
+        return rows_punched(m[0]) if into("look") & rows_punched(m[0]) else 0
+    if name == "chosen":
+        return into("other") if into("by") else into("plain")
+    return into("one") | into("two")
+
+
+def text_of(wires):
+    lines = []
+    for sender, taker in wires:
+        lines.append(" ".join(map(str, sender)) + " > " + " ".join(map(str, taker)) + "\n")
+    return "".join(lines)
+
+
+def column_list(card):
+    return [card.get(column, 0) for column in range(80)]
+
+
+NO_CARDS = {
+    "the holes are missing": [0],
+    "the last holes are missing": [0, 1, 2],
+    "no holes": [0, 0],
+    "holes below 0": [0, -1],
+    "holes 4096": [0, 4096],
+    "column below 0": [-1, 1],
+    "column 80": [80, 1],
+    "columns that do not rise": [5, 1, 4, 1],
+    "a column twice": [5, 1, 5, 2],
+    "81 columns": [number for c in range(81) for number in (c, 1)],
+    "a column of the greatest size": [10 ** 18, 1],
+    "a column of the least size": [-10 ** 18, 1],
+    "holes of the greatest size": [0, 10 ** 18],
+    "holes of the least size": [0, -10 ** 18],
+    "the longest row": [0, 1] * 8400,
+}
 
 NO_DECKS = {
     "a card's numbers are missing": [1],

@@ -203,6 +203,55 @@ class SyntaxTest(unittest.TestCase):
             for one in node.body:
                 self.assertTrue(isinstance(one, ast.FunctionDef) or isinstance(one.value, ast.Constant), node.name)
 
+    def test_parameters_are_plain(self):
+        for name, node in nodes(ast.FunctionDef, ast.Lambda):
+            for default in node.args.defaults:
+                self.assertIsInstance(default, ast.Constant, (name, node.lineno))
+            for parameter in node.args.args:
+                self.assertIsNone(parameter.annotation, (name, node.lineno))
+
+    def test_texts_with_names_in_them(self):
+        for name, node in nodes(ast.FormattedValue):
+            self.assertIsInstance(node.value, ast.Name, (name, node.lineno))
+            self.assertIsNone(node.format_spec, (name, node.lineno))
+            self.assertIn(node.conversion, (-1, ord("r")), (name, node.lineno))
+
+    def test_keywords(self):
+        allowed = {"sorted": ("key", "reverse"), "min": ("key", "default"), "max": ("key", "default"),
+                   "sum": ("start",), "enumerate": ("start",), "zip": ("strict",)}
+        for name, node in nodes(ast.Call):
+            for keyword in node.keywords:
+                self.assertIsInstance(node.func, ast.Name, (name, node.lineno))
+                self.assertIn(keyword.arg, allowed.get(node.func.id, ()), (name, node.lineno))
+
+    def test_errors_that_are_taken(self):
+        taken = []
+        for name, node in nodes(ast.ExceptHandler):
+            self.assertIsNotNone(node.type, (name, node.lineno))
+            taken += [(one.id, name, node.lineno) for one in ast.walk(node.type) if isinstance(one, ast.Name)]
+        for error, name, line in taken:
+            # ValueError, LookupError and IndexError have rules of their own: none is taken as things are.
+            self.assertFalse(hasattr(builtins, error) and error not in ("KeyError", "ZeroDivisionError"), (name, line))
+
+    def test_classes_are_not_handed_on(self):
+        for path, tree in trees():
+            known = [node.name for one, other in trees() for node in other.body if isinstance(node, ast.ClassDef)]
+            above = parents(tree)
+            for node in ast.walk(tree):
+                if isinstance(node, ast.Name) and node.id in known:
+                    user = above[node]
+                    called = isinstance(user, ast.Call) and user.func is node
+                    asked = is_call_of(user, ("isinstance",)) and user.args[1] is node
+                    used = called or asked or isinstance(user, (ast.ClassDef, ast.ExceptHandler, ast.Raise))
+                    self.assertTrue(used, (path, node.lineno))
+
+    def test_what_the_top_keeps_holds_no_list_or_dict(self):
+        for path, tree in trees():
+            for node in tree.body:
+                if isinstance(node, ast.Assign):
+                    inner = [one for one in ast.walk(node.value) if one is not node.value]
+                    self.assertFalse([one for one in inner if isinstance(one, (ast.List, ast.Dict, ast.Set))], path)
+
     def test_walked_on_the_spot(self):
         for path, tree in trees():
             above = parents(tree)

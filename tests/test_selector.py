@@ -4,47 +4,9 @@ import random
 import unittest
 
 from cardpunches.panels import read_panel, run_panel
-from tests.helper import ask_one, holes_by_code, rows_punched, select, signs, told
+from tests.helper import ask_one, column_list, goes_in_words, holes_by_code, select, signs, text_of, told
 
 TAKERS = ("split", "look", "by", "plain", "other", "one", "two")
-
-
-def goes_in_words(wires, card, machine, taker):
-    """What goes into a hub that takes, by the tables, from the end backwards."""
-    senders = [sender for sender, other in wires if other == taker]
-    if not senders:
-        return 0
-    name, k, *m = senders[0]
-
-    def into(hub):
-        return goes_in_words(wires, card, machine, (hub, k))
-
-    if name == "read":
-        return card.get(k, 0)
-    if name == "send":
-        return holes_by_code(k)
-    if name == "from":
-        return machine[k]
-    if name == "upper":
-        return into("split") & rows_punched(0, 1)
-    if name == "lower":
-        return into("split") & rows_punched(*range(2, 12))
-    if name == "hole":
-        return rows_punched(m[0]) if into("look") & rows_punched(m[0]) else 0
-    if name == "chosen":
-        return into("other") if into("by") else into("plain")
-    return into("one") | into("two")
-
-
-def text_of(wires):
-    lines = []
-    for sender, taker in wires:
-        lines.append(" ".join(map(str, sender)) + " > " + " ".join(map(str, taker)) + "\n")
-    return "".join(lines)
-
-
-def column_list(card):
-    return [card.get(column, 0) for column in range(80)]
 
 
 class HubTest(unittest.TestCase):
